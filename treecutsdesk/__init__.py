@@ -1,0 +1,1 @@
+"""A tree that is cut into pieces, none heavier than the crane bears."""
