@@ -7,7 +7,8 @@ from tests.lines import ask, written
 
 CALLS = (
     ("begin", 5), ("bough", 0, 6), ("bough", 1, 7), ("crane", 13), ("weight", 2, 8), ("pieces", [1, 2]),
-    ("heaviest", [2]), ("fits", [1]), ("foot", 2, [1]), ("fewest",), ("twigs",), ("less",), ("pieces", [2]), ("bough", 7, 0),
+    ("heaviest", [2]), ("fits", [1]), ("foot", 2, [1]), ("fewest",), ("twigs",), ("less",),
+    ("pieces", [2]), ("bough", 7, 0),
 )
 
 

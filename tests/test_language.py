@@ -20,8 +20,8 @@ WORDS = set("""type typing typing_extensions enum Enum IntEnum StrEnum Flag IntF
     namedtuple NamedTuple TypedDict TYPE_CHECKING abstractmethod""".split())
 
 NODES = set("""Module FunctionDef ClassDef arguments arg Return Assign AugAssign For While If Raise Try ExceptHandler
-    Expr Pass Break Continue BoolOp And Or BinOp Add Sub Mult FloorDiv Mod BitAnd BitOr BitXor LShift RShift UnaryOp Not USub
-    Lambda IfExp Dict ListComp comprehension Compare Eq NotEq Lt LtE Gt GtE Is IsNot In NotIn Call keyword Constant
+    Expr Pass Break Continue BoolOp And Or BinOp Add Sub Mult FloorDiv Mod BitAnd BitOr BitXor LShift RShift UnaryOp Not
+    USub Lambda IfExp Dict ListComp comprehension Compare Eq NotEq Lt LtE Gt GtE Is IsNot In NotIn Call keyword Constant
     Attribute Subscript Slice Name List Tuple Load Store ImportFrom alias JoinedStr FormattedValue""".split())
 
 
