@@ -34,6 +34,8 @@ def parted(told):
 
 def ask(*calls):
     """What each of the calls answers, in order."""
+    if not 1 <= len(calls) <= 256:
+        raise AssertionError(f"a line has from 1 to 256 calls, not {len(calls)}")
     found = parted(answers(written(calls)))
     if len(found) != len(calls):
         raise AssertionError(f"{len(found)} answers to {len(calls)} calls")
@@ -61,10 +63,9 @@ def seen(made):
 
 def looks():
     """Calls that show a tree whole, and change nothing."""
-    calls = [("pieces", list(range(1, count))) for count in range(1, 10)]
+    calls = [("state",), ("sums",), ("least",), ("fewest",), ("twigs",)]
+    calls += [(name, i) for name in ("look", "crown", "boughs", "down") for i in range(9)]
+    calls += [("pieces", list(range(1, count))) for count in range(1, 10)]
     calls += [("pieces", [part]) for part in range(1, 9)]
     calls += [("foot", i, [part]) for part in range(1, 9) for i in range(9)]
-    calls += [("fewest",), ("twigs",)]
-    # The crane has no call that only looks: it tells what it bore when it is given another strength.
-    calls.append(("crane", 1))
     return calls

@@ -1,4 +1,4 @@
-"""Point 2: pieces, heaviest, fits, foot, fewest, twigs."""
+"""Point 2: pieces, heaviest, fits, foot, fewest, twigs, lightest."""
 
 import unittest
 
@@ -225,10 +225,72 @@ class Twigs(unittest.TestCase):
             self.assertEqual(last(ROW_OF_BOUGHS, ("crane", bears), ("twigs",)), found, bears)
 
 
+class Lightest(unittest.TestCase):
+    def test_no_cuts(self):
+        self.assertEqual(last(BUSHY, ("lightest", 0)), [73])
+        self.assertEqual(last(ROW_OF_BOUGHS, ("lightest", 0)), [45])
+
+    def test_one_cut(self):
+        # Parts 1 and 2 are as good.
+        self.assertEqual(last(BUSHY, ("lightest", 1)), [37, 1])
+        self.assertEqual(last(tree([5, 1, 6, 6], [0, 1, 2]), ("lightest", 1)), [12, 2])
+        self.assertEqual(last(tree([4, 1, 2, 6], [0, 0, 0]), ("lightest", 1)), [7, 3])
+
+    def test_the_lesser_part_is_ahead_where_two_rows_first_differ(self):
+        # By two cuts 3 5, 4 5 and 5 6 are as good.
+        self.assertEqual(last(BUSHY, ("lightest", 2)), [32, 3, 5])
+
+    def test_the_lesser_part_is_ahead_though_its_row_is_longer(self):
+        # No row gets below the 32 of part 5 alone, so 3 5 stays as good as any.
+        self.assertEqual(last(BUSHY, ("lightest", 3)), [32, 1, 3, 5])
+        self.assertEqual(last(BUSHY, ("lightest", 4)), [32, 1, 2, 3, 5])
+        self.assertEqual(last(BUSHY, ("lightest", 5)), [32, 1, 2, 3, 4, 5])
+        self.assertEqual(last(ROW_OF_BOUGHS, ("lightest", 3)), [15, 1, 3, 6])
+
+    def test_a_row_is_ahead_of_one_that_goes_on_from_it(self):
+        for c in (6, 7, 8, 9):
+            self.assertEqual(last(BUSHY, ("heaviest", [1, 2, 3, 4, 5, 6])), [32])
+            self.assertEqual(last(BUSHY, ("lightest", c)), [32, 1, 2, 3, 4, 5], c)
+        # Part 0 alone weighs 9 whatever is cut: so 1 is ahead of 1 2, but not the empty row.
+        self.assertEqual(last(tree([9, 4, 4], [0, 1]), ("lightest", 2)), [9, 1])
+
+    def test_a_row_that_no_cut_makes_better(self):
+        self.assertEqual(last(tree([1, 50], [0]), ("lightest", 1)), [50, 1])
+        self.assertEqual(last(tree([50, 1], [0]), ("lightest", 1)), [50, 1])
+
+    def test_c_beyond_all_parts(self):
+        for c in (7, 8, 9, 50, 1000, 65536, LARGEST):
+            self.assertEqual(last(BUSHY, ("lightest", c)), [32, 1, 2, 3, 4, 5], c)
+            self.assertEqual(last(ROW_OF_BOUGHS, ("lightest", max(8, c))), [5, 1, 2, 3, 4, 5, 6, 7, 8], c)
+
+    def test_trunk_alone(self):
+        for c in (0, 1, 2, 9, LARGEST):
+            self.assertEqual(last(ALONE, ("lightest", c)), [30], c)
+
+    def test_a_row_of_boughs(self):
+        for c, found in ((1, [25, 4]), (2, [15, 3, 6]), (4, [10, 1, 3, 5, 7]), (7, [10, 1, 2, 3, 4, 5, 6, 7]),
+                         (8, [5, 1, 2, 3, 4, 5, 6, 7, 8])):
+            self.assertEqual(last(ROW_OF_BOUGHS, ("lightest", c)), found, c)
+
+    def test_all_on_the_trunk(self):
+        for c, found in ((1, [40, 1]), (2, [35, 1, 2]), (7, [10, 1, 2, 3, 4, 5, 6, 7]),
+                         (8, [5, 1, 2, 3, 4, 5, 6, 7, 8])):
+            self.assertEqual(last(ALL_ON_THE_TRUNK, ("lightest", c)), found, c)
+
+    def test_the_crane_has_no_say(self):
+        for bears in (1, 31, 37, 1000):
+            self.assertEqual(last(BUSHY, ("crane", bears), ("lightest", 1)), [37, 1], bears)
+
+    def test_not_begun(self):
+        self.assertEqual(ask(("lightest", 0), ("lightest", LARGEST), ("begin", 51), ("lightest", 1)),
+                         [[-11], [-11], [-22], [-11]])
+
+
 class Looking(unittest.TestCase):
     def test_changes_nothing(self):
         made = BUSHY + [("crane", 35)]
-        for call in (("pieces", [1, 3]), ("heaviest", [2]), ("fits", []), ("foot", 6, [3]), ("fewest",), ("twigs",)):
+        for call in (("pieces", [1, 3]), ("heaviest", [2]), ("fits", []), ("foot", 6, [3]), ("fewest",), ("twigs",),
+                     ("lightest", 0), ("lightest", 2), ("lightest", LARGEST)):
             self.assertEqual(seen(made + [call, call]), seen(made), call)
 
 

@@ -3,6 +3,7 @@
 NO_SUCH_PART = -2
 ONE_PART_ALONE = -6
 NOT_BEGUN = -11
+TRUNKS_FOOT = -16
 OUT_OF_RANGE = -22
 TOO_MANY = -28
 CANNOT_BE = -33
@@ -10,33 +11,7 @@ CANNOT_BE = -33
 MOST_PARTS = 9
 HEAVIEST_PART = 50
 STRONGEST_CRANE = 1000
-
-# By its number each call: its name, how many whole numbers it has, whether a row stands behind them.
-# All are here, also those that are not answered yet: before a begin each of them is refused alike.
-CALLS = (
-    ("begin", 1, False),
-    ("bough", 2, False),
-    ("weight", 2, False),
-    ("less", 0, False),
-    ("crane", 1, False),
-    ("pieces", 0, True),
-    ("heaviest", 0, True),
-    ("fits", 0, True),
-    ("foot", 1, True),
-    ("fewest", 0, False),
-    ("twigs", 0, False),
-    ("lightest", 1, False),
-    ("ifcrane", 1, False),
-    ("spare", 1, False),
-    ("without", 1, False),
-    ("crown", 1, False),
-    ("boughs", 1, False),
-    ("down", 1, False),
-    ("least", 0, False),
-    ("look", 1, False),
-    ("sums", 0, False),
-    ("state", 0, False),
-)
+MOST_SPARE = 200
 
 
 class Tree:
@@ -55,6 +30,10 @@ def is_part(tree, i):
 
 def is_weight(w):
     return 1 <= w <= HEAVIEST_PART
+
+
+def is_strength(k):
+    return 1 <= k <= STRONGEST_CRANE
 
 
 def are_cuts(tree, row):
@@ -110,7 +89,7 @@ def less(tree):
 
 
 def crane(tree, k):
-    if not 1 <= k <= STRONGEST_CRANE:
+    if not is_strength(k):
         return [OUT_OF_RANGE]
     before = tree.bears
     tree.bears = k
@@ -227,43 +206,154 @@ def twigs(tree):
     return [len(cuts)] + cuts
 
 
+def lightest(tree, c):
+    rows = [row for row in all_cuts(tree) if len(row) <= c]
+    # Of rows that are as good the one ahead need not be the shortest: 1, 3 is ahead of 2.
+    best = min(rows, key=lambda row: (max(piece_weights(tree, row)), row))
+    return [max(piece_weights(tree, best))] + best
+
+
+# What would be, were something else.
+
+
+def copy_of(tree):
+    other = Tree()
+    other.weights = list(tree.weights)
+    other.holders = list(tree.holders)
+    other.bears = tree.bears
+    return other
+
+
+def ifcrane(tree, k):
+    if not is_strength(k):
+        return [OUT_OF_RANGE]
+    other = copy_of(tree)
+    other.bears = k
+    return fewest(other)[:1]
+
+
+def room_beside(tree, i, row):
+    """How much more the crane bears than the piece weighs to which part i belongs."""
+    feet = feet_of_parts(tree, row)
+    return tree.bears - sum([tree.weights[part] for part, piece in enumerate(feet) if piece == feet[i]])
+
+
+def spare(tree, i):
+    if not is_part(tree, i):
+        return [NO_SUCH_PART]
+    count = fewest(tree)[0]
+    if count == CANNOT_BE:
+        return [CANNOT_BE]
+    # Where part i is heavier no other rows do than now, so the fewest are as many until the last of these fails.
+    rows = [row for row in all_cuts(tree) if len(row) == count and cuts_do(tree, row)]
+    return [min(MOST_SPARE, max([room_beside(tree, i, row) for row in rows]))]
+
+
+def without(tree, i):
+    if not is_part(tree, i):
+        return [NO_SUCH_PART]
+    if i == 0:
+        return [TRUNKS_FOOT]
+    other = copy_of(tree)
+    other.weights[i] = 0
+    return fewest(other)[:1]
+
+
+# The tree as it stands.
+
+
+def crown_of(tree, i):
+    """Part i, and all that hangs on it, on what hangs on it, and so on, rising."""
+    found = [i]
+    # What hangs on a part has a greater number, so one walk upwards comes by all of them.
+    for part in range(i + 1, len(tree.weights)):
+        if tree.holders[part] in found:
+            found.append(part)
+    return found
+
+
+def crown(tree, i):
+    if not is_part(tree, i):
+        return [NO_SUCH_PART]
+    found = crown_of(tree, i)
+    return [sum([tree.weights[part] for part in found])] + found
+
+
+def boughs(tree, i):
+    if not is_part(tree, i):
+        return [NO_SUCH_PART]
+    found = boughs_of(tree, i)
+    return [len(found)] + found
+
+
+def down(tree, i):
+    if not is_part(tree, i):
+        return [NO_SUCH_PART]
+    way = [i]
+    while way[-1] > 0:
+        way.append(tree.holders[way[-1]])
+    return [len(way)] + way
+
+
+def least(tree):
+    return [max(tree.weights)]
+
+
+def look(tree, i):
+    if not is_part(tree, i):
+        return [NO_SUCH_PART]
+    return [tree.holders[i], tree.weights[i]]
+
+
+def sums(tree):
+    total = sum(tree.weights)
+    return [total, (total + tree.bears - 1) // tree.bears]
+
+
+def state(tree):
+    return [0, len(tree.weights), tree.bears]
+
+
 # A line of calls.
 
+# By its number each call: what answers it, how many whole numbers it has, whether a row stands behind them.
+CALLS = (
+    (begin, 1, False),
+    (bough, 2, False),
+    (weight, 2, False),
+    (less, 0, False),
+    (crane, 1, False),
+    (pieces, 0, True),
+    (heaviest, 0, True),
+    (fits, 0, True),
+    (foot, 1, True),
+    (fewest, 0, False),
+    (twigs, 0, False),
+    (lightest, 1, False),
+    (ifcrane, 1, False),
+    (spare, 1, False),
+    (without, 1, False),
+    (crown, 1, False),
+    (boughs, 1, False),
+    (down, 1, False),
+    (least, 0, False),
+    (look, 1, False),
+    (sums, 0, False),
+    (state, 0, False),
+)
+BEGIN = 0
 
-def change_answer(tree, name, numbers):
-    if name == "bough":
-        return bough(tree, numbers[0], numbers[1])
-    if name == "weight":
-        return weight(tree, numbers[0], numbers[1])
-    if name == "less":
-        return less(tree)
-    return crane(tree, numbers[0])
 
-
-def cuts_answer(tree, name, numbers, row):
-    if name == "pieces":
-        return pieces(tree, row)
-    if name == "heaviest":
-        return heaviest(tree, row)
-    if name == "fits":
-        return fits(tree, row)
-    if name == "foot":
-        return foot(tree, numbers[0], row)
-    if name == "fewest":
-        return fewest(tree)
-    if name == "twigs":
-        return twigs(tree)
-    raise NotImplementedError(name)
-
-
-def call_answer(tree, name, numbers, row):
-    if name == "begin":
-        return begin(tree, numbers[0])
-    if not tree.weights:
+def call_answer(tree, number, given):
+    """What the call of that number answers; given are its whole numbers, then its row if it has one."""
+    if number != BEGIN and not tree.weights:
         return [NOT_BEGUN]
-    if name in ("bough", "weight", "less", "crane"):
-        return change_answer(tree, name, numbers)
-    return cuts_answer(tree, name, numbers, row)
+    call = CALLS[number][0]
+    if len(given) == 0:
+        return call(tree)
+    if len(given) == 1:
+        return call(tree, given[0])
+    return call(tree, given[0], given[1])
 
 
 def answers(calls):
@@ -272,15 +362,15 @@ def answers(calls):
     told = []
     at = 0
     while at < len(calls):
-        shape = CALLS[calls[at]]
+        number = calls[at]
         at += 1
-        numbers = calls[at:at + shape[1]]
-        at += shape[1]
-        row = []
-        if shape[2]:
+        given = calls[at:at + CALLS[number][1]]
+        at += len(given)
+        if CALLS[number][2]:
             row = calls[at + 1:at + 1 + calls[at]]
             at += 1 + len(row)
-        answer = call_answer(tree, shape[0], numbers, row)
+            given.append(row)
+        answer = call_answer(tree, number, given)
         told.append(len(answer))
         told.extend(answer)
     return told
